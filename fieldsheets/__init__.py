@@ -1,0 +1,1 @@
+"""Camera sheets: the field, its dials, and what the camera sees."""

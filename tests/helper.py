@@ -1,0 +1,162 @@
+"""What the tests share: texts as lists of bytes, faults marked in a text, and a second way to find faults."""
+
+import functools
+import re
+import string
+import unittest
+
+from fieldsheets.field import judge, sizes
+
+NAME = re.compile(r"[a-z][a-z0-9]{0,15}\Z")
+NAME_SIGNS = string.ascii_lowercase + string.digits
+EASES = ("even", "in", "out", "both")
+
+
+def data(text):
+    return list(text.encode("latin-1"))
+
+
+def split_mark(marked):
+    """The text without its mark |, and the fault: how many bytes stand before the mark."""
+    fault = marked.index("|")
+    return data(marked[:fault] + marked[fault + 1:]), fault
+
+
+class SheetCase(unittest.TestCase):
+    def right(self, *texts):
+        for text in texts:
+            with self.subTest(text=text):
+                self.assertEqual(judge(data(text)), [0])
+                self.assertEqual(sizes(data(text))[-1], text.count("\n") - 1)
+
+    def wrong(self, *marked_texts):
+        for marked in marked_texts:
+            with self.subTest(text=marked):
+                t, fault = split_mark(marked)
+                self.assertEqual(judge(t), [-6, fault])
+                self.assertEqual(sizes(t), [-6])
+
+
+def write(sheet):
+    """The text of a sheet as the document words it."""
+    text = "camera %s %d %d %d\n" % (word(sheet.name), sheet.frames, sheet.width, sheet.height)
+    for name, first, moves in sheet.dials:
+        text += "dial %s %d" % (word(name), first)
+        for start, end, target, ease in moves:
+            text += " %d-%d:%d/%s" % (start, end, target, EASES[ease])
+        text += "\n"
+    return text
+
+
+def word(numbers):
+    return bytes(numbers).decode("latin-1")
+
+
+def reference_fault(t):
+    """The fault of t, None if it's a sheet's text.
+
+    Found otherwise than by the program: all that may stand next, each with the sign that ends it, is listed, and the
+    longest beginning that the text shares with one of these is the fault's.
+    """
+    walk = Walk(word(t))
+    try:
+        walk.sheet()
+    except Stop as stop:
+        return stop.fault
+    return None
+
+
+class Stop(Exception):
+    def __init__(self, fault):
+        super().__init__(fault)
+        self.fault = fault
+
+
+class Walk:
+    def __init__(self, text):
+        self.text = text
+        self.at = 0
+
+    def choose(self, options):
+        rest = self.text[self.at:self.at + 40]
+        longest = 0
+        while longest < len(rest) and rest[:longest + 1] in options.beginnings:
+            longest += 1
+        self.at += longest
+        if rest[:longest] not in options.wholes:
+            raise Stop(self.at)
+        return rest[:longest]
+
+    def number(self, least, most, ends):
+        found = self.choose(numbers(least, most, ends))
+        return int(found[:-1]), found[-1]
+
+    def sheet(self):
+        self.choose(options(("camera ",)))
+        self.choose(sheet_names(self.text[self.at:self.at + 17]))
+        frames = self.number(1, 1024, " ")[0]
+        self.number(1, 256, " ")
+        self.number(1, 256, "\n")
+        used = ()
+        while self.at < len(self.text):
+            if len(used) == 32:
+                raise Stop(self.at)
+            used += (self.dial(frames, used),)
+
+    def dial(self, frames, used):
+        self.choose(options(("dial ",)))
+        name = self.choose(dial_names(self.text[self.at:self.at + 19], used))[:-1]
+        least, most = {"zoom": (1, 256), "light": (0, 64)}.get(name, (-9999, 9999))
+        earliest = 0
+        count = 0
+        sign = self.number(least, most, ends_of_item(count, earliest, frames))[1]
+        while sign == " ":
+            start = self.number(earliest, frames - 2, "-")[0]
+            earliest = self.number(start + 1, frames - 1, ":")[0]
+            self.number(least, most, "/")
+            count += 1
+            ends = ends_of_item(count, earliest, frames)
+            sign = self.choose(options(tuple(ease + end for ease in EASES for end in ends)))[-1]
+        return name
+
+
+class Options:
+    def __init__(self, wholes):
+        self.wholes = frozenset(wholes)
+        self.beginnings = frozenset(whole[:k] for whole in wholes for k in range(len(whole) + 1))
+
+
+@functools.lru_cache(maxsize=None)
+def options(wholes):
+    return Options(wholes)
+
+
+@functools.lru_cache(maxsize=None)
+def numbers(least, most, ends):
+    return Options([str(number) + end for number in range(least, most + 1) for end in ends])
+
+
+@functools.lru_cache(maxsize=2048)
+def sheet_names(rest):
+    return Options([name + " " for name in names_near(rest)])
+
+
+@functools.lru_cache(maxsize=2048)
+def dial_names(rest, used):
+    every = ["x", "y", "zoom", "light"]
+    every += [name + ending for name in names_near(rest) for ending in (".x", ".y")]
+    return Options([name + " " for name in every if name not in used])
+
+
+def names_near(rest):
+    """Of the names that share the longest beginnings with rest, so many that some dials of theirs are free."""
+    longest = max((k for k in range(17) if NAME.match(rest[:k])), default=0)
+    near = []
+    for k in (longest - 1, longest):
+        if k >= 0:
+            near += [rest[:k]] + [rest[:k] + sign for sign in NAME_SIGNS]
+    return [name for name in near if NAME.match(name)]
+
+
+def ends_of_item(count, earliest, frames):
+    return " \n" if count < 64 and earliest + 1 <= frames - 1 else "\n"
