@@ -1,30 +1,46 @@
-"""The calls on camera sheets: each takes values and answers one list of whole numbers."""
+"""The calls on camera sheets: each takes values and answers one list of whole numbers.
 
-from fieldsheets.reading import NotASheet, read_sheet
+What may be refused is tried in the order of the refusals: the first that fits is answered.
+"""
 
-LONGEST_TEXT = 65536
-
-TOO_LONG = -2
-NO_SHEET = -6
+from fieldsheets.reading import read_text
+from fieldsheets.refusals import NotASheet, NotThere, TooLong
+from fieldsheets.sheets import find_dial
 
 
 def judge(t):
     """[0] for a camera sheet's text; else [-2], or [-6, fault]."""
-    if len(t) > LONGEST_TEXT:
-        return [TOO_LONG]
     try:
-        read_sheet(t)
+        read_text(t)
+    except TooLong as e:
+        return [e.refusal]
     except NotASheet as e:
-        return [NO_SHEET, e.fault]
+        return [e.refusal, e.fault]
     return [0]
 
 
 def sizes(t):
     """[N, W, H, how many dials]; else [-2] or [-6]."""
-    if len(t) > LONGEST_TEXT:
-        return [TOO_LONG]
     try:
-        sheet = read_sheet(t)
-    except NotASheet:
-        return [NO_SHEET]
+        sheet = read_text(t)
+    except (TooLong, NotASheet) as e:
+        return [e.refusal]
     return [sheet.frames, sheet.width, sheet.height, len(sheet.dials)]
+
+
+def name(k, t):
+    """How many bytes dial k's name has, then they; else [-2], [-6] or [-4]."""
+    try:
+        found = find_dial(read_text(t), k)
+    except (TooLong, NotASheet, NotThere) as e:
+        return [e.refusal]
+    return [len(found.name)] + found.name
+
+
+def dial(k, t):
+    """[dial k's first value, how many moves]; else [-2], [-6] or [-4]."""
+    try:
+        found = find_dial(read_text(t), k)
+    except (TooLong, NotASheet, NotThere) as e:
+        return [e.refusal]
+    return [found.first, len(found.moves)]

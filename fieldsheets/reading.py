@@ -4,6 +4,10 @@ A byte is passed over only where some camera sheet's text begins with all the by
 wherever the reading can't go on, the number of bytes passed over is the fault.
 """
 
+from fieldsheets.refusals import NotASheet, TooLong
+from fieldsheets.sheets import Dial, Sheet
+
+LONGEST_TEXT = 65536
 MOST_FRAMES = 1024
 LONGEST_SIDE = 256
 LONGEST_NAME = 16
@@ -15,24 +19,6 @@ LEVEL_ENDINGS = (".x", ".y")
 EASES = ("even", "in", "out", "both")
 
 NO_BYTE = -1
-
-
-class NotASheet(Exception):
-    """The text is no camera sheet's."""
-
-    def __init__(self, fault):
-        self.fault = fault
-
-
-class Sheet:
-    """What a camera sheet's text tells. A dial is its name, its first value and its moves; a move is F, T, V, ease."""
-
-    def __init__(self, name, frames, width, height, dials):
-        self.name = name
-        self.frames = frames
-        self.width = width
-        self.height = height
-        self.dials = dials
 
 
 class Reader:
@@ -213,7 +199,7 @@ def read_dial(reader, frames, used):
     first = read_number(reader, bounds[0], bounds[1])
     moves = read_moves(reader, frames, bounds)
     reader.take("\n")
-    return (name, first, moves)
+    return Dial(name, first, moves)
 
 
 def read_dials(reader, frames):
@@ -224,7 +210,7 @@ def read_dials(reader, frames):
             raise NotASheet(reader.at)
         dial = read_dial(reader, frames, used)
         dials.append(dial)
-        used[tuple(dial[0])] = True
+        used[tuple(dial.name)] = True
     return dials
 
 
@@ -241,3 +227,10 @@ def read_sheet(t):
     height = read_number(reader, 1, LONGEST_SIDE)
     reader.take("\n")
     return Sheet(name, frames, width, height, read_dials(reader, frames))
+
+
+def read_text(t):
+    """The sheet that has this text, whatever is handed over; TooLong comes before NotASheet."""
+    if len(t) > LONGEST_TEXT:
+        raise TooLong()
+    return read_sheet(t)

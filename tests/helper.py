@@ -1,4 +1,4 @@
-"""What the tests share: texts as lists of bytes, faults marked in a text, and a second way to find faults."""
+"""What the tests share: texts as lists of bytes, faults marked in a text, a second way to find faults, made sheets."""
 
 import functools
 import re
@@ -10,6 +10,8 @@ from fieldsheets.field import judge, sizes
 NAME = re.compile(r"[a-z][a-z0-9]{0,15}\Z")
 NAME_SIGNS = string.ascii_lowercase + string.digits
 EASES = ("even", "in", "out", "both")
+# The greatest number that may be handed over where one from 0 on is asked.
+GREATEST = 18446744073709551615
 
 
 def data(text):
@@ -40,9 +42,9 @@ class SheetCase(unittest.TestCase):
 def write(sheet):
     """The text of a sheet as the document words it."""
     text = "camera %s %d %d %d\n" % (word(sheet.name), sheet.frames, sheet.width, sheet.height)
-    for name, first, moves in sheet.dials:
-        text += "dial %s %d" % (word(name), first)
-        for start, end, target, ease in moves:
+    for dial in sheet.dials:
+        text += "dial %s %d" % (word(dial.name), dial.first)
+        for start, end, target, ease in dial.moves:
             text += " %d-%d:%d/%s" % (start, end, target, EASES[ease])
         text += "\n"
     return text
@@ -160,3 +162,38 @@ def names_near(rest):
 
 def ends_of_item(count, earliest, frames):
     return " \n" if count < 64 and earliest + 1 <= frames - 1 else "\n"
+
+
+def made_sheet(source):
+    """The text of some sheet, as the source of chance has it."""
+    frames = source.choice((1, 2, 3, 10, 11, 100, 1000, 1024, source.randint(1, 1024)))
+    text = "camera %s %d %d %d\n" % (made_name(source), frames, source.randint(1, 256), source.randint(1, 256))
+    names = ["x", "y", "zoom", "light", "x.x", "zoom.y"] + [made_name(source) + source.choice((".x", ".y"))
+                                                           for k in range(source.choice((0, 2, 26)))]
+    names = source.sample(sorted(set(names)), source.randint(0, len(set(names))))
+    for name in names:
+        text += "dial " + name + " " + made_value(source, name) + made_moves(source, name, frames) + "\n"
+    return text
+
+
+def made_name(source):
+    length = source.choice((1, 2, 15, 16))
+    return source.choice("abxyz") + "".join(source.choice("az09") for k in range(length - 1))
+
+
+def made_value(source, name):
+    least, most = {"zoom": (1, 256), "light": (0, 64)}.get(name, (-9999, 9999))
+    return str(source.choice((least, most, source.randint(least, most))))
+
+
+def made_moves(source, name, frames):
+    text = ""
+    earliest = 0
+    for k in range(source.choice((0, 1, 3, 64))):
+        if earliest > frames - 2:
+            break
+        start = min(frames - 2, earliest + source.choice((0, 0, 1, 5)))
+        earliest = min(frames - 1, start + source.choice((1, 2, 12)))
+        ease = source.choice(("even", "in", "out", "both"))
+        text += " %d-%d:%s/%s" % (start, earliest, made_value(source, name), ease)
+    return text

@@ -4,8 +4,8 @@ import contextlib
 import io
 import unittest
 
-from fieldsheets.field import judge, sizes
-from tests.helper import data
+from fieldsheets.field import dial, judge, name, sizes
+from tests.helper import GREATEST, data
 
 TEXTS = (
     "camera a 10 2 3\ndial x 0 0-9:-5/in\ndial zoom 64\n",
@@ -16,48 +16,64 @@ TEXTS = (
     "c" * 65536,
     "c" * 65537,
 )
+# A call and what is handed over to it beside the text, by its names.
+CALLS = (
+    (judge, {}),
+    (sizes, {}),
+    (name, {"k": 0}),
+    (name, {"k": 1}),
+    (name, {"k": GREATEST}),
+    (dial, {"k": 0}),
+    (dial, {"k": 1}),
+    (dial, {"k": GREATEST}),
+)
 
 
 class Calls(unittest.TestCase):
     def test_what_is_handed_in_is_not_changed(self):
-        for call in (judge, sizes):
+        for call, rest in CALLS:
             for text in TEXTS:
                 t = data(text)
-                call(t)
+                call(t=t, **rest)
                 self.assertEqual(t, data(text))
 
     def test_a_second_call_answers_the_same(self):
-        for call in (judge, sizes):
+        for call, rest in CALLS:
             for text in TEXTS:
                 t = data(text)
-                self.assertEqual(call(t), call(t))
+                self.assertEqual(call(t=t, **rest), call(t=t, **rest))
 
     def test_what_was_called_before_is_of_no_matter(self):
-        for call in (judge, sizes):
-            once = [call(data(text)) for text in TEXTS]
-            again = [call(data(text)) for text in reversed(TEXTS)]
-            self.assertEqual(once, list(reversed(again)))
+        pairs = [(call, rest, text) for call, rest in CALLS for text in TEXTS]
+        once = [call(t=data(text), **rest) for call, rest, text in pairs]
+        again = [call(t=data(text), **rest) for call, rest, text in reversed(pairs)]
+        self.assertEqual(once, list(reversed(again)))
 
     def test_an_answer_that_is_changed_changes_no_later_one(self):
-        for call in (judge, sizes):
+        for call, rest in CALLS:
             for text in TEXTS:
-                answer = call(data(text))
+                t = data(text)
+                answer = call(t=t, **rest)
                 kept = list(answer)
                 answer.append(7)
                 answer[0] = 99
-                self.assertEqual(call(data(text)), kept)
+                self.assertEqual(call(t=t, **rest), kept)
+                self.assertEqual(t, data(text))
 
     def test_nothing_is_printed(self):
         printed = io.StringIO()
         with contextlib.redirect_stdout(printed), contextlib.redirect_stderr(printed):
-            for text in TEXTS:
-                judge(data(text))
-                sizes(data(text))
+            for call, rest in CALLS:
+                for text in TEXTS:
+                    call(t=data(text), **rest)
         self.assertEqual(printed.getvalue(), "")
 
-    def test_arguments_go_by_their_names(self):
-        self.assertEqual(judge(t=data(TEXTS[1])), [0])
-        self.assertEqual(sizes(t=data(TEXTS[1])), [1, 1, 1, 0])
+    def test_arguments_go_by_their_names_and_by_their_order(self):
+        t = data(TEXTS[0])
+        self.assertEqual(judge(t), judge(t=t))
+        self.assertEqual(sizes(t), sizes(t=t))
+        self.assertEqual(name(1, t), name(k=1, t=t))
+        self.assertEqual(dial(1, t), dial(k=1, t=t))
 
 
 if __name__ == "__main__":

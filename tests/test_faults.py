@@ -5,7 +5,7 @@ import unittest
 
 from fieldsheets.field import judge, sizes
 from fieldsheets.reading import read_sheet
-from tests.helper import SheetCase, data, reference_fault, word, write
+from tests.helper import SheetCase, data, made_sheet, reference_fault, word, write
 
 SMALL = (
     "camera pan2 48 64 32\n"
@@ -121,40 +121,6 @@ class AgainstTheReference(unittest.TestCase):
             self.assertIsNone(reference_fault(t))
             for change in range(12):
                 self.same(changed(source, t))
-
-
-def made_sheet(source):
-    frames = source.choice((1, 2, 3, 10, 11, 100, 1000, 1024, source.randint(1, 1024)))
-    text = "camera %s %d %d %d\n" % (made_name(source), frames, source.randint(1, 256), source.randint(1, 256))
-    names = ["x", "y", "zoom", "light", "x.x", "zoom.y"] + [made_name(source) + source.choice((".x", ".y"))
-                                                           for k in range(source.choice((0, 2, 26)))]
-    names = source.sample(sorted(set(names)), source.randint(0, len(set(names))))
-    for name in names:
-        text += "dial " + name + " " + made_value(source, name) + made_moves(source, name, frames) + "\n"
-    return text
-
-
-def made_name(source):
-    length = source.choice((1, 2, 15, 16))
-    return source.choice("abxyz") + "".join(source.choice("az09") for k in range(length - 1))
-
-
-def made_value(source, name):
-    least, most = {"zoom": (1, 256), "light": (0, 64)}.get(name, (-9999, 9999))
-    return str(source.choice((least, most, source.randint(least, most))))
-
-
-def made_moves(source, name, frames):
-    text = ""
-    earliest = 0
-    for k in range(source.choice((0, 1, 3, 64))):
-        if earliest > frames - 2:
-            break
-        start = min(frames - 2, earliest + source.choice((0, 0, 1, 5)))
-        earliest = min(frames - 1, start + source.choice((1, 2, 12)))
-        ease = source.choice(("even", "in", "out", "both"))
-        text += " %d-%d:%s/%s" % (start, earliest, made_value(source, name), ease)
-    return text
 
 
 def changed(source, t):
