@@ -3,9 +3,10 @@
 What may be refused is tried in the order of the refusals: the first that fits is answered.
 """
 
-from fieldsheets.reading import read_text
-from fieldsheets.refusals import NotASheet, NotThere, TooLong
-from fieldsheets.sheets import find_dial
+from fieldsheets.dials import value_at
+from fieldsheets.reading import check_dial_name, read_text
+from fieldsheets.refusals import NotADialName, NotASheet, NotThere, TooLong
+from fieldsheets.sheets import check_frame, find_dial, find_move
 
 
 def judge(t):
@@ -44,3 +45,23 @@ def dial(k, t):
     except (TooLong, NotASheet, NotThere) as e:
         return [e.refusal]
     return [found.first, len(found.moves)]
+
+
+def move(k, i, t):
+    """[F, T, V, ease] of move i of dial k; else [-2], [-6] or [-4]."""
+    try:
+        found = find_move(find_dial(read_text(t), k), i)
+    except (TooLong, NotASheet, NotThere) as e:
+        return [e.refusal]
+    return list(found)
+
+
+def value(f, t, s):
+    """[the value at frame f of the dial called s]; else [-1], [-2], [-6] or [-4]."""
+    try:
+        check_dial_name(s)
+        sheet = read_text(t)
+        check_frame(sheet, f)
+    except (NotADialName, TooLong, NotASheet, NotThere) as e:
+        return [e.refusal]
+    return [value_at(sheet, s, f)]

@@ -4,7 +4,7 @@ A byte is passed over only where some camera sheet's text begins with all the by
 wherever the reading can't go on, the number of bytes passed over is the fault.
 """
 
-from fieldsheets.refusals import NotASheet, TooLong
+from fieldsheets.refusals import NotADialName, NotASheet, TooLong
 from fieldsheets.sheets import Dial, Sheet
 
 LONGEST_TEXT = 65536
@@ -71,6 +71,11 @@ def is_dial_name(part):
     if part in [bytes_of(word) for word in PLAIN_DIALS]:
         return True
     return part[-2:] in [bytes_of(ending) for ending in LEVEL_ENDINGS] and is_name(part[:-2])
+
+
+def check_dial_name(s):
+    if not is_dial_name(s):
+        raise NotADialName()
 
 
 def begins_free_dial(part, used):

@@ -1,6 +1,13 @@
 """Why a call is refused: one error for each refusal, with the number that's answered."""
 
 
+class NotADialName(Exception):
+    """The name is no dial's, in whatever sheet."""
+
+    def __init__(self):
+        self.refusal = -1
+
+
 class TooLong(Exception):
     """The text has more bytes than may be handed over."""
 

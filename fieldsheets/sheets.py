@@ -27,3 +27,14 @@ def find_dial(sheet, k):
     if k >= len(sheet.dials):
         raise NotThere()
     return sheet.dials[k]
+
+
+def find_move(dial, i):
+    if i >= len(dial.moves):
+        raise NotThere()
+    return dial.moves[i]
+
+
+def check_frame(sheet, f):
+    if f >= sheet.frames:
+        raise NotThere()

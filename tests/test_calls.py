@@ -1,10 +1,11 @@
 """Each call stands by itself: it changes nothing, keeps nothing, prints nothing."""
 
 import contextlib
+import copy
 import io
 import unittest
 
-from fieldsheets.field import dial, judge, name, sizes
+from fieldsheets.field import dial, judge, move, name, sizes, value
 from tests.helper import GREATEST, data
 
 TEXTS = (
@@ -26,6 +27,15 @@ CALLS = (
     (dial, {"k": 0}),
     (dial, {"k": 1}),
     (dial, {"k": GREATEST}),
+    (move, {"k": 0, "i": 0}),
+    (move, {"k": 1, "i": 0}),
+    (move, {"k": GREATEST, "i": GREATEST}),
+    (value, {"f": 0, "s": data("x")}),
+    (value, {"f": 5, "s": data("x")}),
+    (value, {"f": 5, "s": data("hill.x")}),
+    (value, {"f": GREATEST, "s": data("zoom")}),
+    (value, {"f": 0, "s": data("hill")}),
+    (value, {"f": 0, "s": []}),
 )
 
 
@@ -34,8 +44,10 @@ class Calls(unittest.TestCase):
         for call, rest in CALLS:
             for text in TEXTS:
                 t = data(text)
-                call(t=t, **rest)
+                handed = copy.deepcopy(rest)
+                call(t=t, **handed)
                 self.assertEqual(t, data(text))
+                self.assertEqual(handed, rest)
 
     def test_a_second_call_answers_the_same(self):
         for call, rest in CALLS:
@@ -53,12 +65,14 @@ class Calls(unittest.TestCase):
         for call, rest in CALLS:
             for text in TEXTS:
                 t = data(text)
-                answer = call(t=t, **rest)
+                handed = copy.deepcopy(rest)
+                answer = call(t=t, **handed)
                 kept = list(answer)
                 answer.append(7)
                 answer[0] = 99
-                self.assertEqual(call(t=t, **rest), kept)
+                self.assertEqual(call(t=t, **handed), kept)
                 self.assertEqual(t, data(text))
+                self.assertEqual(handed, rest)
 
     def test_nothing_is_printed(self):
         printed = io.StringIO()
@@ -74,6 +88,8 @@ class Calls(unittest.TestCase):
         self.assertEqual(sizes(t), sizes(t=t))
         self.assertEqual(name(1, t), name(k=1, t=t))
         self.assertEqual(dial(1, t), dial(k=1, t=t))
+        self.assertEqual(move(0, 0, t), move(k=0, i=0, t=t))
+        self.assertEqual(value(5, t, data("x")), value(f=5, t=t, s=data("x")))
 
 
 if __name__ == "__main__":

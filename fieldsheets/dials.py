@@ -1,0 +1,38 @@
+"""Which value a dial has at a frame."""
+
+from fieldsheets.easing import eased
+from fieldsheets.reading import bytes_of
+
+USUAL_ZOOM = 64
+USUAL_LIGHT = 64
+
+
+def value_of_dial(dial, f):
+    held = dial.first
+    for start, end, target, ease in dial.moves:
+        if f < start:
+            return held
+        if f < end:
+            return eased(ease, end - start, f - start, held, target)
+        held = target
+    return held
+
+
+def usual_value(sheet, dial_name):
+    """The value at every frame of a dial that the sheet doesn't have."""
+    if dial_name == bytes_of("x"):
+        return sheet.width // 2
+    if dial_name == bytes_of("y"):
+        return sheet.height // 2
+    if dial_name == bytes_of("zoom"):
+        return USUAL_ZOOM
+    if dial_name == bytes_of("light"):
+        return USUAL_LIGHT
+    return 0
+
+
+def value_at(sheet, dial_name, f):
+    for dial in sheet.dials:
+        if dial.name == dial_name:
+            return value_of_dial(dial, f)
+    return usual_value(sheet, dial_name)
