@@ -36,3 +36,11 @@ def value_at(sheet, dial_name, f):
         if dial.name == dial_name:
             return value_of_dial(dial, f)
     return usual_value(sheet, dial_name)
+
+
+def least_and_greatest(sheet, dial_name):
+    """The dial's least value, the first frame that has it, its greatest value, the first frame that has it."""
+    course = [value_at(sheet, dial_name, f) for f in range(sheet.frames)]
+    least = min(course)
+    greatest = max(course)
+    return [least, course.index(least), greatest, course.index(greatest)]

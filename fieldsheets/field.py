@@ -3,9 +3,11 @@
 What may be refused is tried in the order of the refusals: the first that fits is answered.
 """
 
-from fieldsheets.dials import value_at
+from fieldsheets.checks import check_steps
+from fieldsheets.dials import least_and_greatest, value_at
+from fieldsheets.easing import eased
 from fieldsheets.reading import check_dial_name, read_text
-from fieldsheets.refusals import NotADialName, NotASheet, NotThere, TooLong
+from fieldsheets.refusals import NotASheet, NotThere, TooLong, WrongInput
 from fieldsheets.sheets import check_frame, find_dial, find_move
 
 
@@ -62,6 +64,25 @@ def value(f, t, s):
         check_dial_name(s)
         sheet = read_text(t)
         check_frame(sheet, f)
-    except (NotADialName, TooLong, NotASheet, NotThere) as e:
+    except (WrongInput, TooLong, NotASheet, NotThere) as e:
         return [e.refusal]
     return [value_at(sheet, s, f)]
+
+
+def range_of(t, s):
+    """[least value, its first frame, greatest value, its first frame] of the dial called s; else [-1], [-2] or [-6]."""
+    try:
+        check_dial_name(s)
+        sheet = read_text(t)
+    except (WrongInput, TooLong, NotASheet) as e:
+        return [e.refusal]
+    return least_and_greatest(sheet, s)
+
+
+def ease(e, n, i, a, b):
+    """[the value at step i of n on the way from a to b, eased by e]; else [-1]."""
+    try:
+        check_steps(e, n, i, a, b)
+    except WrongInput as refused:
+        return [refused.refusal]
+    return [eased(e, n, i, a, b)]

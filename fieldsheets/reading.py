@@ -4,7 +4,7 @@ A byte is passed over only where some camera sheet's text begins with all the by
 wherever the reading can't go on, the number of bytes passed over is the fault.
 """
 
-from fieldsheets.refusals import NotADialName, NotASheet, TooLong
+from fieldsheets.refusals import NotASheet, TooLong, WrongInput
 from fieldsheets.sheets import Dial, Sheet
 
 LONGEST_TEXT = 65536
@@ -13,6 +13,8 @@ LONGEST_SIDE = 256
 LONGEST_NAME = 16
 MOST_DIALS = 32
 MOST_MOVES = 64
+LEAST_VALUE = -9999
+MOST_VALUE = 9999
 
 PLAIN_DIALS = ("x", "y", "zoom", "light")
 LEVEL_ENDINGS = (".x", ".y")
@@ -75,7 +77,7 @@ def is_dial_name(part):
 
 def check_dial_name(s):
     if not is_dial_name(s):
-        raise NotADialName()
+        raise WrongInput()
 
 
 def begins_free_dial(part, used):
@@ -101,7 +103,7 @@ def least_and_most(dial_name):
         return (1, 256)
     if dial_name == bytes_of("light"):
         return (0, 64)
-    return (-9999, 9999)
+    return (LEAST_VALUE, MOST_VALUE)
 
 
 def can_become(number, least, most):

@@ -1,8 +1,8 @@
 """Why a call is refused: one error for each refusal, with the number that's answered."""
 
 
-class NotADialName(Exception):
-    """The name is no dial's, in whatever sheet."""
+class WrongInput(Exception):
+    """A number is out of its range, or a name is no dial's, in whatever sheet."""
 
     def __init__(self):
         self.refusal = -1

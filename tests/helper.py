@@ -1,5 +1,7 @@
-"""What the tests share: texts as lists of bytes, faults marked in a text, a second way to find faults, made sheets."""
+"""What the tests share: texts as lists of bytes, right and wrong ones, faults marked in a text, made sheets, and second
+ways to find faults and values."""
 
+import fractions
 import functools
 import re
 import string
@@ -10,8 +12,20 @@ from fieldsheets.field import judge, sizes
 NAME = re.compile(r"[a-z][a-z0-9]{0,15}\Z")
 NAME_SIGNS = string.ascii_lowercase + string.digits
 EASES = ("even", "in", "out", "both")
+BACKWARDS = {"even": "even", "in": "out", "out": "in", "both": "both"}
+LONG = "abcdefghij012345"
 # The greatest number that may be handed over where one from 0 on is asked.
 GREATEST = 18446744073709551615
+
+RIGHT = "camera a 10 7 9\ndial x 5 0-9:6/in\ndial a.x 1\n"
+NO_SHEETS = ("", "camera", RIGHT[:-1], RIGHT + "dial x 0\n", RIGHT + "\n", "\xff", "x" * 65536)
+TOO_LONG = tuple(text + "\n" * (length - len(text)) for text in ("", RIGHT) for length in (65537, 66000))
+NO_DIALS = (
+    "", ".", ".x", ".y", "a", "hill", "camera", "dial", "zoo", "zooms", "xx", "xy", LONG, LONG + "6.x", LONG + "6.y",
+    "X", "Y", "Zoom", "LIGHT", "A.x", "a.X", "aB.y", "9.x", "9a.y", "0", "x.", "a.", "a.z", "a.light", "a.xx", "a..x",
+    "a.x.y", "x ", " x", "x\n", "x\0", "\0", "zoom ", "light\n", "a.x ", "a.x\n", "a.x5", " a.x", "a x", "a-b.x",
+    "a_b.x", "\xe4.x", "{.x", "`.x", "a/.x", "a:.x", "\xff", "x" * 100, "a" * 98 + ".x", "\0" * 100,
+)
 
 
 def data(text):
@@ -197,3 +211,36 @@ def made_moves(source, name, frames):
         ease = source.choice(("even", "in", "out", "both"))
         text += " %d-%d:%s/%s" % (start, earliest, made_value(source, name), ease)
     return text
+
+
+def reference_eased(ease, n, i, a, b):
+    """Eased by a fraction of the way, and the nearest whole number looked for among those about it."""
+    gone = fractions.Fraction(i, n)
+    gone = {"even": gone, "in": gone ** 2, "out": 1 - (1 - gone) ** 2, "both": gone ** 2 * (3 - 2 * gone)}[ease]
+    exact = gone * (b - a)
+    about = [int(exact) + k for k in range(-2, 3)]
+    return a + min(about, key=lambda whole: (abs(whole - exact), -whole))
+
+
+def reference_value(text, called, f):
+    """The value, from the text's lines; the moves are gone through from the last one back."""
+    head, *lines = text.splitlines()
+    words = [line.split(" ") for line in lines if line.split(" ")[1] == called]
+    if not words:
+        width, height = head.split(" ")[3:]
+        usual = {"x": int(width) // 2, "y": int(height) // 2, "zoom": 64, "light": 64}
+        return usual.get(called, 0)
+    held = [int(words[0][2])]
+    moves = []
+    for item in words[0][3:]:
+        span, rest = item.split(":")
+        start, end = span.split("-")
+        target, ease = rest.split("/")
+        moves.append((int(start), int(end), held[-1], int(target), ease))
+        held.append(int(target))
+    for start, end, before, target, ease in reversed(moves):
+        if f >= end:
+            return target
+        if f >= start:
+            return reference_eased(ease, end - start, f - start, before, target)
+    return held[0]

@@ -5,7 +5,7 @@ import copy
 import io
 import unittest
 
-from fieldsheets.field import dial, judge, move, name, sizes, value
+from fieldsheets.field import dial, ease, judge, move, name, range_of, sizes, value
 from tests.helper import GREATEST, data
 
 TEXTS = (
@@ -18,7 +18,7 @@ TEXTS = (
     "c" * 65537,
 )
 # A call and what is handed over to it beside the text, by its names.
-CALLS = (
+ON_TEXTS = (
     (judge, {}),
     (sizes, {}),
     (name, {"k": 0}),
@@ -36,50 +36,65 @@ CALLS = (
     (value, {"f": GREATEST, "s": data("zoom")}),
     (value, {"f": 0, "s": data("hill")}),
     (value, {"f": 0, "s": []}),
+    (range_of, {"s": data("x")}),
+    (range_of, {"s": data("hill.x")}),
+    (range_of, {"s": data("hill")}),
 )
+ON_NUMBERS = (
+    (ease, {"e": 3, "n": 4, "i": 1, "a": -5, "b": 9}),
+    (ease, {"e": 4, "n": 4, "i": 1, "a": -5, "b": 9}),
+    (ease, {"e": GREATEST, "n": GREATEST, "i": GREATEST, "a": 0, "b": 0}),
+)
+CALLS = tuple((call, dict(rest, t=data(text))) for call, rest in ON_TEXTS for text in TEXTS) + ON_NUMBERS
+
+
+class Held(list):
+    """A list that fails whoever changes it."""
+
+    def refuse(self, *given):
+        raise AssertionError("what is handed in is changed")
+
+    append = extend = insert = pop = remove = clear = sort = reverse = refuse
+    __setitem__ = __delitem__ = __iadd__ = __imul__ = refuse
 
 
 class Calls(unittest.TestCase):
     def test_what_is_handed_in_is_not_changed(self):
-        for call, rest in CALLS:
-            for text in TEXTS:
-                t = data(text)
-                handed = copy.deepcopy(rest)
-                call(t=t, **handed)
-                self.assertEqual(t, data(text))
-                self.assertEqual(handed, rest)
+        for call, handed in CALLS:
+            given = copy.deepcopy(handed)
+            call(**given)
+            self.assertEqual(given, handed)
+
+    def test_what_is_handed_in_is_not_changed_for_a_while_either(self):
+        for call, handed in CALLS:
+            held = {key: Held(each) if isinstance(each, list) else each for key, each in handed.items()}
+            self.assertEqual(call(**held), call(**handed))
 
     def test_a_second_call_answers_the_same(self):
-        for call, rest in CALLS:
-            for text in TEXTS:
-                t = data(text)
-                self.assertEqual(call(t=t, **rest), call(t=t, **rest))
+        for call, handed in CALLS:
+            given = copy.deepcopy(handed)
+            self.assertEqual(call(**given), call(**given))
 
     def test_what_was_called_before_is_of_no_matter(self):
-        pairs = [(call, rest, text) for call, rest in CALLS for text in TEXTS]
-        once = [call(t=data(text), **rest) for call, rest, text in pairs]
-        again = [call(t=data(text), **rest) for call, rest, text in reversed(pairs)]
+        once = [call(**copy.deepcopy(handed)) for call, handed in CALLS]
+        again = [call(**copy.deepcopy(handed)) for call, handed in reversed(CALLS)]
         self.assertEqual(once, list(reversed(again)))
 
     def test_an_answer_that_is_changed_changes_no_later_one(self):
-        for call, rest in CALLS:
-            for text in TEXTS:
-                t = data(text)
-                handed = copy.deepcopy(rest)
-                answer = call(t=t, **handed)
-                kept = list(answer)
-                answer.append(7)
-                answer[0] = 99
-                self.assertEqual(call(t=t, **handed), kept)
-                self.assertEqual(t, data(text))
-                self.assertEqual(handed, rest)
+        for call, handed in CALLS:
+            given = copy.deepcopy(handed)
+            answer = call(**given)
+            kept = list(answer)
+            answer.append(7)
+            answer[0] = 99
+            self.assertEqual(call(**given), kept)
+            self.assertEqual(given, handed)
 
     def test_nothing_is_printed(self):
         printed = io.StringIO()
         with contextlib.redirect_stdout(printed), contextlib.redirect_stderr(printed):
-            for call, rest in CALLS:
-                for text in TEXTS:
-                    call(t=data(text), **rest)
+            for call, handed in CALLS:
+                call(**copy.deepcopy(handed))
         self.assertEqual(printed.getvalue(), "")
 
     def test_arguments_go_by_their_names_and_by_their_order(self):
@@ -90,6 +105,8 @@ class Calls(unittest.TestCase):
         self.assertEqual(dial(1, t), dial(k=1, t=t))
         self.assertEqual(move(0, 0, t), move(k=0, i=0, t=t))
         self.assertEqual(value(5, t, data("x")), value(f=5, t=t, s=data("x")))
+        self.assertEqual(range_of(t, data("x")), range_of(t=t, s=data("x")))
+        self.assertEqual(ease(1, 7, 3, -5, 90), ease(e=1, n=7, i=3, a=-5, b=90))
 
 
 if __name__ == "__main__":

@@ -4,9 +4,8 @@ import random
 import unittest
 
 from fieldsheets.field import dial, name, sizes
-from tests.helper import GREATEST, data, made_sheet
+from tests.helper import GREATEST, LONG, data, made_sheet
 
-LONG = "abcdefghij012345"
 DIALS = (
     ("x", "-7", 0),
     ("zoom", "256 0-1:1/even", 1),

@@ -3,10 +3,9 @@
 import unittest
 
 from fieldsheets.field import judge, sizes
-from tests.helper import SheetCase, data
+from tests.helper import LONG, SheetCase, data
 
 HEAD = "camera a 1024 1 1\n"
-LONG = "abcdefghij012345"
 
 
 class Edges(SheetCase):

@@ -1,14 +1,11 @@
 """value: what a dial is at a frame (F3), and how it is eased (F2)."""
 
-import fractions
 import random
 import unittest
 
 from fieldsheets.field import value
-from tests.helper import EASES, GREATEST, data, made_sheet
-
-LONG = "abcdefghij012345"
-BACKWARDS = {"even": "even", "in": "out", "out": "in", "both": "both"}
+from tests.helper import (BACKWARDS, EASES, GREATEST, LONG, NO_DIALS, NO_SHEETS, RIGHT, TOO_LONG, data, made_sheet,
+                          reference_eased, reference_value)
 
 
 def values(text, called, frames):
@@ -23,39 +20,6 @@ def one_move(a, b, n, ease):
     """The values at all steps of a move from a to b."""
     text = "camera a %d 1 1\ndial x %d 0-%d:%d/%s\n" % (n + 1, a, n, b, ease)
     return values(text, "x", range(n + 1))
-
-
-def reference_eased(ease, n, i, a, b):
-    """Eased by a fraction of the way, and the nearest whole number looked for among those about it."""
-    gone = fractions.Fraction(i, n)
-    gone = {"even": gone, "in": gone ** 2, "out": 1 - (1 - gone) ** 2, "both": gone ** 2 * (3 - 2 * gone)}[ease]
-    exact = gone * (b - a)
-    about = [int(exact) + k for k in range(-2, 3)]
-    return a + min(about, key=lambda whole: (abs(whole - exact), -whole))
-
-
-def reference_value(text, called, f):
-    """The value, from the text's lines; the moves are gone through from the last one back."""
-    head, *lines = text.splitlines()
-    words = [line.split(" ") for line in lines if line.split(" ")[1] == called]
-    if not words:
-        width, height = head.split(" ")[3:]
-        usual = {"x": int(width) // 2, "y": int(height) // 2, "zoom": 64, "light": 64}
-        return usual.get(called, 0)
-    held = [int(words[0][2])]
-    moves = []
-    for item in words[0][3:]:
-        span, rest = item.split(":")
-        start, end = span.split("-")
-        target, ease = rest.split("/")
-        moves.append((int(start), int(end), held[-1], int(target), ease))
-        held.append(int(target))
-    for start, end, before, target, ease in reversed(moves):
-        if f >= end:
-            return target
-        if f >= start:
-            return reference_eased(ease, end - start, f - start, before, target)
-    return held[0]
 
 
 class Steps(unittest.TestCase):
@@ -251,17 +215,6 @@ class NotOnTheSheet(unittest.TestCase):
         text = "camera a 3 7 9\ndial x 0\ndial y 0\ndial zoom 1\ndial light 0\n"
         for called, expected in (("x", 0), ("y", 0), ("zoom", 1), ("light", 0)):
             self.assertEqual(values(text, called, range(3)), [expected] * 3)
-
-
-RIGHT = "camera a 10 7 9\ndial x 5 0-9:6/in\ndial a.x 1\n"
-NO_SHEETS = ("", "camera", RIGHT[:-1], RIGHT + "dial x 0\n", RIGHT + "\n", "\xff", "x" * 65536)
-TOO_LONG = tuple(text + "\n" * (length - len(text)) for text in ("", RIGHT) for length in (65537, 66000))
-NO_DIALS = (
-    "", ".", ".x", ".y", "a", "hill", "camera", "dial", "zoo", "zooms", "xx", "xy", LONG, LONG + "6.x", LONG + "6.y",
-    "X", "Y", "Zoom", "LIGHT", "A.x", "a.X", "aB.y", "9.x", "9a.y", "0", "x.", "a.", "a.z", "a.light", "a.xx", "a..x",
-    "a.x.y", "x ", " x", "x\n", "x\0", "\0", "zoom ", "light\n", "a.x ", "a.x\n", "a.x5", " a.x", "a x", "a-b.x",
-    "a_b.x", "\xe4.x", "{.x", "`.x", "a/.x", "a:.x", "\xff", "x" * 100, "a" * 98 + ".x", "\0" * 100,
-)
 
 
 class Refusals(unittest.TestCase):
