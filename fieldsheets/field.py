@@ -3,12 +3,19 @@
 What may be refused is tried in the order of the refusals: the first that fits is answered.
 """
 
-from fieldsheets.checks import check_steps
+from fieldsheets.checks import check_steps, check_view
 from fieldsheets.dials import least_and_greatest, value_at
 from fieldsheets.easing import eased
 from fieldsheets.reading import check_dial_name, read_text
 from fieldsheets.refusals import NotASheet, NotThere, TooLong, WrongInput
+from fieldsheets.rows import read_levels, read_named_sheets
+from fieldsheets.seeing import looked_at, seen, seen_at_frame
 from fieldsheets.sheets import check_frame, find_dial, find_move
+
+
+def counted(part):
+    """What is answered as bytes: how many there are, then they."""
+    return [len(part)] + part
 
 
 def judge(t):
@@ -37,7 +44,7 @@ def name(k, t):
         found = find_dial(read_text(t), k)
     except (TooLong, NotASheet, NotThere) as e:
         return [e.refusal]
-    return [len(found.name)] + found.name
+    return counted(found.name)
 
 
 def dial(k, t):
@@ -86,3 +93,24 @@ def ease(e, n, i, a, b):
     except WrongInput as refused:
         return [refused.refusal]
     return [eased(e, n, i, a, b)]
+
+
+def see(cx, cy, zoom, width, height, l):
+    """How many points the field has, then the paint that's seen at each; else [-1]."""
+    try:
+        check_view(zoom, width, height)
+        levels = read_levels(l)
+    except WrongInput as e:
+        return [e.refusal]
+    return counted(seen(levels, looked_at(cx, width, zoom), looked_at(cy, height, zoom)))
+
+
+def shot(f, t, l):
+    """How many points the field has, then the paint that's seen at each at frame f; else [-1], [-2], [-6] or [-4]."""
+    try:
+        named_sheets = read_named_sheets(l)
+        sheet = read_text(t)
+        check_frame(sheet, f)
+    except (WrongInput, TooLong, NotASheet, NotThere) as e:
+        return [e.refusal]
+    return counted(seen_at_frame(sheet, f, named_sheets))

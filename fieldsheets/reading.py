@@ -13,6 +13,8 @@ LONGEST_SIDE = 256
 LONGEST_NAME = 16
 MOST_DIALS = 32
 MOST_MOVES = 64
+MOST_ZOOM = 256
+MOST_LIGHT = 64
 LEAST_VALUE = -9999
 MOST_VALUE = 9999
 
@@ -100,9 +102,9 @@ def begins_free_dial(part, used):
 def least_and_most(dial_name):
     """The least and the greatest value that a dial of this name may have."""
     if dial_name == bytes_of("zoom"):
-        return (1, 256)
+        return (1, MOST_ZOOM)
     if dial_name == bytes_of("light"):
-        return (0, 64)
+        return (0, MOST_LIGHT)
     return (LEAST_VALUE, MOST_VALUE)
 
 

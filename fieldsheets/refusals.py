@@ -2,7 +2,7 @@
 
 
 class WrongInput(Exception):
-    """A number is out of its range, or a name is no dial's, in whatever sheet."""
+    """A row isn't so, a number is out of its range, or a name is no dial's, in whatever sheet."""
 
     def __init__(self):
         self.refusal = -1

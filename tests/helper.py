@@ -1,8 +1,9 @@
-"""What the tests share: texts as lists of bytes, right and wrong ones, faults marked in a text, made sheets, and second
-ways to find faults and values."""
+"""What the tests share: texts as lists of bytes, right and wrong ones, faults marked in a text, made sheets, rows of
+levels, and second ways to find faults, values and what is seen."""
 
 import fractions
 import functools
+import math
 import re
 import string
 import unittest
@@ -16,6 +17,9 @@ BACKWARDS = {"even": "even", "in": "out", "out": "in", "both": "both"}
 LONG = "abcdefghij012345"
 # The greatest number that may be handed over where one from 0 on is asked.
 GREATEST = 18446744073709551615
+# The least and the greatest where one below 0 may be handed over.
+LEAST_GIVEN = -9223372036854775808
+MOST_GIVEN = 9223372036854775807
 
 RIGHT = "camera a 10 7 9\ndial x 5 0-9:6/in\ndial a.x 1\n"
 NO_SHEETS = ("", "camera", RIGHT[:-1], RIGHT + "dial x 0\n", RIGHT + "\n", "\xff", "x" * 65536)
@@ -244,3 +248,33 @@ def reference_value(text, called, f):
         if f >= start:
             return reference_eased(ease, end - start, f - start, before, target)
     return held[0]
+
+
+def row_of_levels(levels):
+    """The row of levels that are told as W, H, dx, dy and a list of paints."""
+    return [number for level in levels for number in list(level[:4]) + list(level[4])]
+
+
+def row_of_named(sheets):
+    """The row of named sheets that are told as a name, W, H and a list of paints."""
+    return [number for called, width, height, paints in sheets
+            for number in [len(called)] + data(called) + [width, height] + list(paints)]
+
+
+def made_paints(source, count):
+    """Paints of which about every other is clear."""
+    return [source.choice((0, source.randint(1, 255))) for k in range(count)]
+
+
+def reference_seen(levels, cx, cy, zoom, width, height):
+    """What is seen, from a table that is painted from the lowest level up, with fractions of points."""
+    table = {}
+    for wide, high, dx, dy, paints in reversed(levels):
+        for number, paint in enumerate(paints):
+            if paint:
+                table[dx + number % wide, dy + number // wide] = paint
+    step = fractions.Fraction(zoom, 64)
+    half = fractions.Fraction(1, 2)
+    across = [cx + math.floor((x + half - fractions.Fraction(width, 2)) * step) for x in range(width)]
+    down = [cy + math.floor((y + half - fractions.Fraction(height, 2)) * step) for y in range(height)]
+    return [table.get((u, v), 0) for v in down for u in across]

@@ -5,8 +5,8 @@ import copy
 import io
 import unittest
 
-from fieldsheets.field import dial, ease, judge, move, name, range_of, sizes, value
-from tests.helper import GREATEST, data
+from fieldsheets.field import dial, ease, judge, move, name, range_of, see, shot, sizes, value
+from tests.helper import GREATEST, data, row_of_levels, row_of_named
 
 TEXTS = (
     "camera a 10 2 3\ndial x 0 0-9:-5/in\ndial zoom 64\n",
@@ -17,6 +17,8 @@ TEXTS = (
     "c" * 65536,
     "c" * 65537,
 )
+SHEETS = row_of_named([("hill", 2, 3, [0, 1, 2, 3, 4, 255]), ("a", 1, 1, [9]), ("hill", 1, 2, [7, 8])])
+LEVELS = row_of_levels([(2, 3, -1, 1, [0, 1, 2, 3, 4, 255]), (1, 1, 0, 0, [9])])
 # A call and what is handed over to it beside the text, by its names.
 ON_TEXTS = (
     (judge, {}),
@@ -39,11 +41,20 @@ ON_TEXTS = (
     (range_of, {"s": data("x")}),
     (range_of, {"s": data("hill.x")}),
     (range_of, {"s": data("hill")}),
+    (shot, {"f": 0, "l": SHEETS}),
+    (shot, {"f": 9, "l": SHEETS}),
+    (shot, {"f": GREATEST, "l": SHEETS}),
+    (shot, {"f": 0, "l": SHEETS[:-1]}),
+    (shot, {"f": 0, "l": []}),
 )
 ON_NUMBERS = (
     (ease, {"e": 3, "n": 4, "i": 1, "a": -5, "b": 9}),
     (ease, {"e": 4, "n": 4, "i": 1, "a": -5, "b": 9}),
     (ease, {"e": GREATEST, "n": GREATEST, "i": GREATEST, "a": 0, "b": 0}),
+    (see, {"cx": 1, "cy": 1, "zoom": 64, "width": 3, "height": 2, "l": LEVELS}),
+    (see, {"cx": -1, "cy": 1, "zoom": 100, "width": 2, "height": 5, "l": []}),
+    (see, {"cx": 1, "cy": 1, "zoom": 0, "width": 3, "height": 2, "l": LEVELS}),
+    (see, {"cx": 1, "cy": 1, "zoom": 64, "width": 3, "height": 2, "l": LEVELS[:-1]}),
 )
 CALLS = tuple((call, dict(rest, t=data(text))) for call, rest in ON_TEXTS for text in TEXTS) + ON_NUMBERS
 
@@ -107,6 +118,8 @@ class Calls(unittest.TestCase):
         self.assertEqual(value(5, t, data("x")), value(f=5, t=t, s=data("x")))
         self.assertEqual(range_of(t, data("x")), range_of(t=t, s=data("x")))
         self.assertEqual(ease(1, 7, 3, -5, 90), ease(e=1, n=7, i=3, a=-5, b=90))
+        self.assertEqual(see(1, 0, 64, 3, 2, LEVELS), see(cx=1, cy=0, zoom=64, width=3, height=2, l=LEVELS))
+        self.assertEqual(shot(5, t, SHEETS), shot(f=5, t=t, l=SHEETS))
 
 
 if __name__ == "__main__":

@@ -4,11 +4,9 @@ import random
 import unittest
 
 from fieldsheets.field import ease, value
-from tests.helper import BACKWARDS, EASES, GREATEST, data, reference_eased
+from tests.helper import BACKWARDS, EASES, GREATEST, LEAST_GIVEN, MOST_GIVEN, data, reference_eased
 
 WAYS = ((0, 1), (1, 0), (0, -1), (-9999, 9999), (9999, -9999), (-3, 4), (5, -6), (-9999, -9998), (7, 7), (64, 0))
-LEAST_GIVEN = -9223372036854775808
-MOST_GIVEN = 9223372036854775807
 
 
 def steps(e, n, a, b):
